@@ -3,33 +3,10 @@ import unittest
 
 from rentroll.days import day_of, month_days, month_of
 from rentroll.errors import BadDay, RentError
+from things import far_numbers, no_numbers
 
 COMMON = [31, 28, 31, 30, 31, 30, 31, 31, 30, 31, 30, 31]
 LEAP = [31, 29, 31, 30, 31, 30, 31, 31, 30, 31, 30, 31]
-
-
-class Contrary:
-    """A thing that can't be compared, measured or shown."""
-
-    def refuse(self, *told):
-        raise RuntimeError("looked at")
-
-    __eq__ = __lt__ = __le__ = __gt__ = __ge__ = refuse
-    __hash__ = __len__ = __bool__ = __index__ = __int__ = __repr__ = __str__ = refuse
-
-
-def no_numbers():
-    return [
-        ("True", True), ("False", False), ("text", "1"), ("empty text", ""), ("word", "May"),
-        ("None", None), ("tuple", (1,)), ("empty tuple", ()), ("list", [1]), ("dict", {1: 1}),
-        ("set", {1}), ("bytes", b"1"), ("range", range(2)), ("object", object()),
-        ("class", int), ("function", len), ("contrary", Contrary()),
-    ]
-
-
-def far_numbers():
-    # Python itself refuses to write out numbers as long as these.
-    return [("far ahead", -(10 ** 6000)), ("far behind", 10 ** 6000)]
 
 
 class MonthDaysTest(unittest.TestCase):

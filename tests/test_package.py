@@ -12,6 +12,26 @@ INTERFACE = {
     ],
     "days.py": ["month_days", "month_of", "day_of"],
     "terms.py": ["pair_held", "held"],
+    "rents.py": ["rent_on", "part", "owed"],
+    "pledges.py": ["balance", "grown"],
+    "rolls.py": ["Roll"],
+    "reading.py": ["roll_of"],
+}
+
+# What each function of the interface takes, by name.
+TAKES = {
+    "month_days": ["year", "month"], "month_of": ["day"], "day_of": ["year", "month", "number"],
+    "pair_held": ["terms", "day"], "held": ["terms", "day"], "rent_on": ["steps", "gauges", "day"],
+    "part": ["rent", "day"], "owed": ["steps", "gauges", "first", "last"], "balance": ["moves", "day"],
+    "grown": ["moves", "rates", "last"], "roll_of": ["letters"],
+}
+
+METHODS = {
+    "let": ["flat", "first", "rent", "indexed"], "end": ["lease", "last"], "step": ["lease", "first", "rent"],
+    "gauge": ["first", "number"], "rate": ["first", "hundredths"], "paid": ["lease", "day", "cents"],
+    "kept": ["lease", "day", "cents"], "close": ["lease", "day"], "bill": ["day"], "many": [], "billed": [],
+    "lease": ["number"], "tenant": ["flat", "day"], "owed": ["lease", "day"], "pledge": ["lease", "day"],
+    "sent": ["lease"], "given": ["lease"], "letters": [],
 }
 
 # Of the library nothing else may be imported: so no clock, no chance and no files.
@@ -36,6 +56,38 @@ class PackageTest(unittest.TestCase):
             for word in listed:
                 with self.subTest(file=name, word=word):
                     self.assertEqual(defined.count(word), 1)
+
+    def test_functions_take_what_is_listed(self):
+        for name in INTERFACE:
+            for row in tree_of(FOLDER / name).body:
+                if isinstance(row, ast.FunctionDef) and row.name in TAKES:
+                    with self.subTest(function=row.name):
+                        self.assertEqual([told.arg for told in row.args.args], TAKES[row.name])
+
+    def test_methods_of_the_roll_are_defined_in_it(self):
+        rolls = [row for row in tree_of(FOLDER / "rolls.py").body if isinstance(row, ast.ClassDef)]
+        self.assertEqual([(row.name, row.bases) for row in rolls], [("Roll", [])])
+        defined = {row.name: row for row in rolls[0].body if isinstance(row, ast.FunctionDef)}
+        for name, takes in METHODS.items():
+            with self.subTest(method=name):
+                self.assertEqual([told.arg for told in defined[name].args.args], ["self", *takes])
+
+    def test_module_level_holds_no_list_and_no_dict(self):
+        for path in package_files():
+            for row in tree_of(path).body:
+                with self.subTest(file=path.name, line=row.lineno):
+                    self.assertIsInstance(row, (ast.Expr, ast.ImportFrom, ast.FunctionDef, ast.ClassDef, ast.Assign))
+                    if isinstance(row, ast.Assign):
+                        inner = [node for node in ast.walk(row) if isinstance(node, (ast.List, ast.Dict, ast.Set))]
+                        self.assertEqual(inner, [])
+
+    def test_no_numbers_with_a_point(self):
+        for path in package_files():
+            for node in ast.walk(tree_of(path)):
+                with self.subTest(file=path.name):
+                    self.assertNotIsInstance(node, ast.Div)
+                    if isinstance(node, ast.Constant):
+                        self.assertNotIsInstance(node.value, (float, complex))
 
     def test_imports_come_from_the_package_or_the_allowed_library(self):
         for path in package_files():
